@@ -1,0 +1,184 @@
+"""What the tests share: bracketings as nested pairs, reckoned without the package, and wrong arguments.
+
+A tree is the number of a word, or a pair of trees.
+"""
+
+import random
+
+from heardseams.errors import NoBook, NoShape, SeamError, TooMany
+
+
+def trees(first, last):
+    """All trees of the words first to last: outermost seam, then part ahead, then part behind."""
+    if first == last:
+        return [first]
+    return [
+        (ahead, behind)
+        for seam in range(first, last)
+        for ahead in trees(first, seam)
+        for behind in trees(seam + 1, last)
+    ]
+
+
+def random_tree(chance, first, last):
+    if first == last:
+        return first
+    seam = chance.randrange(first, last)
+    return (random_tree(chance, first, seam), random_tree(chance, seam + 1, last))
+
+
+def words_of(tree):
+    if isinstance(tree, int):
+        return [tree]
+    return words_of(tree[0]) + words_of(tree[1])
+
+
+def seam_of(tree):
+    return words_of(tree[0])[-1]
+
+
+def phrases(tree, depth=0):
+    """A dict from each seam to (first word, last word, depth) of its phrase."""
+    if isinstance(tree, int):
+        return {}
+    words = words_of(tree)
+    found = {seam_of(tree): (words[0], words[-1], depth)}
+    found.update(phrases(tree[0], depth + 1))
+    found.update(phrases(tree[1], depth + 1))
+    return found
+
+
+def shape_of(tree):
+    found = phrases(tree)
+    return tuple(found[seam][2] for seam in sorted(found))
+
+
+def standing(tree, one, other):
+    """How one seam stands to the other: whose phrase lies within whose."""
+    found = phrases(tree)
+    a, b, _ = found[one]
+    c, d, _ = found[other]
+    if a <= c and d <= b:
+        return "over"
+    if c <= a and b <= d:
+        return "under"
+    return "neither"
+
+
+def rotations(tree):
+    """A dict from each regrouping (one, other) to the tree behind it."""
+    if isinstance(tree, int):
+        return {}
+    ahead, behind = tree
+    found = {}
+    if isinstance(ahead, tuple):
+        found[seam_of(tree), seam_of(ahead)] = (ahead[0], (ahead[1], behind))
+    if isinstance(behind, tuple):
+        found[seam_of(tree), seam_of(behind)] = ((ahead, behind[0]), behind[1])
+    for step, other in rotations(ahead).items():
+        found[step] = (other, behind)
+    for step, other in rotations(behind).items():
+        found[step] = (ahead, other)
+    return found
+
+
+def ballot_of(tree):
+    if isinstance(tree, int):
+        return ()
+    return (1,) + ballot_of(tree[0]) + (-1,) + ballot_of(tree[1])
+
+
+def left_comb(words):
+    """The shape (..((A B) C)..)."""
+    return tuple(range(words - 2, -1, -1))
+
+
+def right_comb(words):
+    """The shape (..(A (B C))..)."""
+    return tuple(range(words - 1))
+
+
+def zigzag(words):
+    """The shape whose outermost seam is the first, then the last, then the second, and so on."""
+    depths = [0] * (words - 1)
+    low, high = 0, words - 2
+    for depth in range(words - 1):
+        if depth & 1:
+            depths[high] = depth
+            high -= 1
+        else:
+            depths[low] = depth
+            low += 1
+    return tuple(depths)
+
+
+def long_trees(many, seed):
+    """Some trees of 40 words, the same ones each time."""
+    chance = random.Random(seed)
+    return [random_tree(chance, 0, 39) for _ in range(many)]
+
+
+def some_lengths(words, seed):
+    """Lengths of so many words: all the least, all the greatest, near each other, and far apart."""
+    chance = random.Random(seed)
+    return [
+        (1,) * words, (10 ** 6,) * words, tuple(chance.randint(1, 3) for _ in range(words)),
+        tuple(chance.choice((1, 2, 5, 40, 1000, 10 ** 6)) for _ in range(words)),
+    ]
+
+
+def nested(kind, depth):
+    thing = kind()
+    for _ in range(depth - 1):
+        thing = kind([thing])
+    return thing
+
+
+def odd_things():
+    """Values of all kinds; the only integers that are no flags are the last three."""
+    return [
+        None, True, False, "", "0", "(0, 1)", " \n\t~", [], [0], [0, 1], [[0]], (), (None,), (True,),
+        (False,), ("0",), ([],), ({},), ((),), ((0,),), {}, {0: 0}, {"a": [1]}, {(0, 1): "over"},
+        SeamError(), NoShape(), NoBook([1]), TooMany(40), (NoShape(),), nested(tuple, 30), nested(list, 30),
+        -1, 10 ** 40, -10 ** 40,
+    ]
+
+
+def is_plain_integer(thing):
+    return isinstance(thing, int) and not isinstance(thing, bool)
+
+
+def no_integers():
+    return [thing for thing in odd_things() if not is_plain_integer(thing)]
+
+
+def no_shapes():
+    """Values that are shapes of no number of words."""
+    return [thing for thing in odd_things() if thing != ()] + [
+        [1, 0], (1,), (2,), (-1,), (0, 0), (1, 1), (0, 2), (2, 0), (1, 2), (0, -1), (0, 1, 1), (1, 1, 0),
+        (0, 2, 2), (1, 0, 0), (0, 1, 3), (1, 0, 2), (2, 0, 1), (0, 1, 0), (3, 1, 0), (1, 0, 1, 1),
+        (1, False), (False, 1), (0, True), (True, 0), (0, "1"), (0, None), (0, (1,)), (0, [1]), (10 ** 30, 0),
+        right_comb(41), left_comb(41), zigzag(41), right_comb(42), (0,) * 39, (0,) * 1000, (1,) * 39,
+        left_comb(40)[:-1], right_comb(40)[1:], right_comb(40)[:-1] + ("38",), right_comb(40)[:-1] + (39,),
+    ]
+
+
+def no_lengths():
+    return odd_things() + [
+        [1, 1], (0,), (-1,), (1, 0), (0, 1), (1, -1), (10 ** 6 + 1,), (1, 10 ** 6 + 1), (10 ** 40, 1), (1, True),
+        (True, 1), (1, None), (1, "1"), (1, (1,)), (1, [1]), (1,) * 41, (1,) * 1000, (1,) * 39 + (0,),
+    ]
+
+
+def raised(function, *arguments):
+    """The error that the call raises, None if it raises none."""
+    try:
+        function(*arguments)
+    except Exception as error:
+        return error
+    return None
+
+
+def error_kind(function, *arguments):
+    """The class of the error that the call raises."""
+    return raised(function, *arguments).__class__

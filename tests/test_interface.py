@@ -1,0 +1,198 @@
+"""[2], [3], [4], [26]: names, arguments, kinds of values, new lists, unchanged arguments, the order of checks."""
+
+import copy
+import inspect
+import importlib
+import sys
+import unittest
+
+from heardseams import errors
+from heardseams.errors import NoBallot, NoLengths, NoNumber, NoPart, NoSeam, NoShape, NoStep
+from tests.helper import error_kind, left_comb, nested, odd_things, right_comb, zigzag
+
+# The module, the function, its arguments by name, a call that is right.
+CALLS = (
+    ("shapes", "is_shape", ("thing",), ((1, 0, 1),)),
+    ("shapes", "shapes_many", ("words",), (40,)),
+    ("shapes", "all_shapes", ("words",), (5,)),
+    ("shapes", "shape_at", ("words", "number"), (40, 10 ** 20)),
+    ("shapes", "shape_number", ("shape",), (zigzag(40),)),
+    ("shapes", "outermost", ("shape",), ((1, 0, 1),)),
+    ("shapes", "joined", ("shape", "seam"), ((1, 0, 1), 2)),
+    ("shapes", "stands", ("shape", "one", "other"), ((1, 0, 1), 0, 2)),
+    ("shapes", "part_of", ("shape", "first", "last"), ((1, 0, 1), 2, 3)),
+    ("shapes", "joined_shape", ("one", "other"), ((1, 0, 1), (0,))),
+    ("shapes", "turned", ("shape",), ((1, 2, 0),)),
+    ("shapes", "ballot", ("shape",), ((1, 2, 0),)),
+    ("shapes", "from_ballot", ("thing",), ((1, 1, -1, -1),)),
+    ("shapes", "regroupings", ("shape",), ((1, 2, 0),)),
+    ("shapes", "regrouped", ("shape", "one", "other"), ((1, 2, 0), 2, 0)),
+    ("numbers", "places", ("lengths",), ((1, 2, 3),)),
+    ("numbers", "unlike", ("lengths", "one", "other"), ((1, 2, 3), (0, 1), (1, 0))),
+    ("numbers", "number", ("lengths", "one", "other"), ((1, 2, 3), (0, 1), (1, 0))),
+    ("numbers", "middles", ("lengths", "shape"), ((1, 2, 3), (1, 0))),
+    ("numbers", "road", ("lengths", "one", "other"), ((1, 2, 3), (0, 1), (1, 0))),
+    ("numbers", "road_fault", ("lengths", "one", "other", "most", "thing"),
+     ((1, 2, 3), (0, 1), (1, 0), 2, [(0, 1)])),
+    ("numbers", "alike_in_all", ("lengths", "one", "other", "reach"), ((1, 2, 3), (0, 1), (1, 0), 2)),
+)
+KINDS = {
+    "is_shape": bool, "shapes_many": int, "all_shapes": list, "shape_at": tuple, "shape_number": int,
+    "outermost": int, "joined": tuple, "stands": str, "part_of": tuple, "joined_shape": tuple, "turned": tuple,
+    "ballot": tuple, "from_ballot": tuple, "regroupings": list, "regrouped": tuple, "places": tuple,
+    "unlike": list, "number": int, "middles": list, "road": list, "road_fault": None.__class__,
+    "alike_in_all": bool,
+}
+# The errors of the arguments of each function, in their order.
+REFUSALS = {
+    "shapes_many": (NoNumber,), "all_shapes": (NoNumber,), "shape_at": (NoNumber, NoNumber),
+    "shape_number": (NoShape,), "outermost": (NoShape,), "joined": (NoShape, NoSeam),
+    "stands": (NoShape, NoSeam, NoSeam), "part_of": (NoShape, NoPart, NoPart), "joined_shape": (NoShape, NoShape),
+    "turned": (NoShape,), "ballot": (NoShape,), "from_ballot": (NoBallot,), "regroupings": (NoShape,),
+    "regrouped": (NoShape, NoStep, NoStep), "places": (NoLengths,), "unlike": (NoLengths, NoShape, NoShape),
+    "number": (NoLengths, NoShape, NoShape), "middles": (NoLengths, NoShape), "road": (NoLengths, NoShape, NoShape),
+    "road_fault": (NoLengths, NoShape, NoShape, NoNumber), "alike_in_all": (NoLengths, NoShape, NoShape, NoNumber),
+}
+
+
+def function_of(module, name):
+    return getattr(importlib.import_module("heardseams." + module), name)
+
+
+def never_right():
+    """Values that no function takes for any argument whose error is named."""
+    return [thing for thing in odd_things() if thing != () and thing != 10 ** 40]
+
+
+class Interface(unittest.TestCase):
+    def test_each_function_is_defined_where_it_is_listed(self):
+        for module, name, arguments, _ in CALLS:
+            function = function_of(module, name)
+            self.assertTrue(inspect.isfunction(function))
+            self.assertEqual(function.__module__, "heardseams." + module)
+            self.assertEqual(function.__name__, name)
+            self.assertEqual(tuple(inspect.signature(function).parameters), arguments)
+
+    def test_arguments_by_position(self):
+        for module, name, _, given in CALLS:
+            for parameter in inspect.signature(function_of(module, name)).parameters.values():
+                self.assertEqual(parameter.kind, parameter.POSITIONAL_OR_KEYWORD)
+                self.assertIs(parameter.default, parameter.empty)
+
+    def test_each_error_is_defined_in_its_file(self):
+        for name, kind in inspect.getmembers(errors, inspect.isclass):
+            self.assertEqual(kind.__module__, "heardseams.errors", name)
+
+    def test_kinds_of_values(self):
+        for module, name, _, given in CALLS:
+            self.assertIs(function_of(module, name)(*given).__class__, KINDS[name], name)
+
+    def test_kinds_of_what_is_within_the_values(self):
+        for module, name, _, given in CALLS:
+            self.check_plain(function_of(module, name)(*given))
+
+    def check_plain(self, thing):
+        if isinstance(thing, (list, tuple)):
+            for part in thing:
+                self.assertIn(part.__class__, (int, tuple))
+                self.check_plain(part)
+
+
+class Lists(unittest.TestCase):
+    def test_each_list_is_new_and_equal(self):
+        for module, name, _, given in CALLS:
+            function = function_of(module, name)
+            first, second = function(*given), function(*given)
+            self.assertEqual(first, second)
+            if isinstance(first, list):
+                self.assertIsNot(first, second)
+                kept = list(second)
+                first.append("more")
+                first[0] = None
+                self.assertEqual(second, kept)
+                self.assertEqual(function(*given), kept)
+
+    def test_lists_that_are_empty_are_new_too(self):
+        shapes = importlib.import_module("heardseams.shapes")
+        numbers = importlib.import_module("heardseams.numbers")
+        calls = (
+            (shapes.regroupings, ((),)), (numbers.unlike, ((1,), (), ())), (numbers.middles, ((1,), ())),
+            (numbers.road, ((1,), (), ())),
+        )
+        for function, given in calls:
+            found = function(*given)
+            found.append(1)
+            self.assertEqual(function(*given), [])
+
+    def test_no_argument_is_changed(self):
+        for module, name, _, given in CALLS:
+            kept = copy.deepcopy(given)
+            function_of(module, name)(*given)
+            self.assertEqual(given, kept)
+
+    def test_a_list_that_is_judged_is_not_changed(self):
+        road_fault = function_of("numbers", "road_fault")
+        for thing in ([(0, 1)], [(0, 1), (1, 0)], [(5, 5)], [None], []):
+            kept = copy.deepcopy(thing)
+            road_fault((1, 2, 3), (0, 1), (1, 0), 0, thing)
+            self.assertEqual(thing, kept)
+
+    def test_a_wrong_argument_is_not_changed(self):
+        for module, name, _, given in CALLS:
+            for thing in odd_things():
+                kept = repr(thing)
+                error_kind(function_of(module, name), *[thing] * len(given))
+                self.assertEqual(repr(thing), kept)
+
+
+class Refused(unittest.TestCase):
+    def test_every_wrong_thing_gets_the_error_that_is_named(self):
+        for module, name, _, given in CALLS:
+            for at, kind in enumerate(REFUSALS.get(name, ())):
+                for thing in never_right():
+                    wrong = given[:at] + (thing,) + given[at + 1:]
+                    self.assertIs(error_kind(function_of(module, name), *wrong), kind, (name, at, thing))
+
+    def test_the_first_of_two_wrong_arguments_is_told(self):
+        for module, name, _, given in CALLS:
+            kinds = REFUSALS.get(name, ())
+            for first in range(len(kinds)):
+                for second in range(first + 1, len(given)):
+                    for thing in never_right():
+                        for other in (None, thing):
+                            wrong = list(given)
+                            wrong[first], wrong[second] = thing, other
+                            found = error_kind(function_of(module, name), *wrong)
+                            self.assertIs(found, kinds[first], (name, first, second))
+
+    def test_flags_are_no_integers(self):
+        shapes = importlib.import_module("heardseams.shapes")
+        self.assertIs(error_kind(shapes.shapes_many, True), NoNumber)
+        self.assertIs(error_kind(shapes.shape_at, 1, False), NoNumber)
+        self.assertIs(error_kind(shapes.joined, (0, 1), True), NoSeam)
+        self.assertIs(error_kind(shapes.part_of, (0, 1), 1, True), NoPart)
+        self.assertIs(error_kind(shapes.from_ballot, (True, -1)), NoBallot)
+        self.assertIs(error_kind(function_of("numbers", "places"), (1, True)), NoLengths)
+
+    def test_no_recursion_error(self):
+        for module, name, _, given in CALLS:
+            for kind in (list, tuple):
+                deep = nested(kind, 30)
+                found = error_kind(function_of(module, name), *[deep] * len(given))
+                self.assertIsNot(found, RecursionError)
+
+    def test_the_deepest_shapes_need_little_of_the_stack(self):
+        limit = sys.getrecursionlimit()
+        sys.setrecursionlimit(len(inspect.stack()) + 120)
+        try:
+            for shape in (left_comb(40), right_comb(40), zigzag(40)):
+                for name in ("is_shape", "shape_number", "ballot", "regroupings", "turned"):
+                    function_of("shapes", name)(shape)
+                back = function_of("shapes", "from_ballot")(function_of("shapes", "ballot")(shape))
+                self.assertEqual(back, shape)
+        finally:
+            sys.setrecursionlimit(limit)
+
+
+if __name__ == "__main__":
+    unittest.main()
