@@ -5,6 +5,7 @@ A tree is the number of a word, or a pair of trees.
 
 import random
 
+from heardseams.books import Book
 from heardseams.errors import NoBook, NoShape, SeamError, TooMany
 
 
@@ -127,6 +128,89 @@ def some_lengths(words, seed):
     ]
 
 
+def distances(lengths):
+    """A dict from each pair of seams p < q to their distance."""
+    return {(p, q): sum(lengths[p + 1:q + 1]) for q in range(len(lengths) - 1) for p in range(q)}
+
+
+def some_m(lengths):
+    """Numbers m for which classes come out in all ways that they can, 1 and the greatest among them."""
+    found = {1, 10 ** 9}
+    for distance in distances(lengths).values():
+        found.update((distance, distance + 1))
+    return sorted(found)
+
+
+def near_by_hand(lengths, tree, m):
+    """How all seams nearer than m stand, as a dict."""
+    return {pair: standing(tree, *pair) for pair, distance in distances(lengths).items() if distance < m}
+
+
+def classes_by_hand(lengths, m):
+    """The classes of all trees of the words: a list of lists of shapes, all in order of their first shapes."""
+    found = {}
+    for tree in trees(0, len(lengths) - 1):
+        key = tuple(sorted(near_by_hand(lengths, tree, m).items()))
+        found.setdefault(key, []).append(shape_of(tree))
+    return list(found.values())
+
+
+def far_steps(lengths, tree, m):
+    """The regroupings of the tree whose middles are m or more."""
+    far = distances(lengths)
+    return [step for step in rotations(tree) if far[min(step), max(step)] >= m]
+
+
+def all_rows_by_hand(sounds, most):
+    """All rows of 1 to so many sounds."""
+    found = []
+    for length in range(1, most + 1):
+        for number in range(sounds ** length):
+            found.append(tuple(number // sounds ** (length - 1 - at) % sounds for at in range(length)))
+    return found
+
+
+def random_row(chance, sounds, length):
+    return tuple(chance.randrange(sounds) for _ in range(length))
+
+
+def random_table(chance, sounds, ahead, behind, many):
+    """A table with at most so many entries, also ones that change nothing."""
+    table = {}
+    for _ in range(many):
+        left, right = chance.randint(1, ahead), chance.randint(1, behind)
+        key = (random_row(chance, sounds, left), random_row(chance, sounds, right))
+        table[key] = (random_row(chance, sounds, left), random_row(chance, sounds, right))
+    return table
+
+
+def random_book(chance, sounds, ahead, behind, many):
+    return Book(sounds, ahead, behind, random_table(chance, sounds, ahead, behind, many))
+
+
+def full_book(chance, sounds, ahead, behind):
+    """A book that tells for each pair of rows what it becomes."""
+    return Book(sounds, ahead, behind, {
+        (left, right): (random_row(chance, sounds, len(left)), random_row(chance, sounds, len(right)))
+        for left in all_rows_by_hand(sounds, ahead) for right in all_rows_by_hand(sounds, behind)
+    })
+
+
+def meet_by_hand(book, one, other):
+    """Two rows joined, by the parts of the book alone."""
+    left = one[max(0, len(one) - book.ahead()):]
+    right = other[:book.behind()]
+    new_left, new_right = book.table().get((left, right), (left, right))
+    return one[:len(one) - len(left)] + new_left + new_right + other[len(right):]
+
+
+def say_by_hand(book, words, tree):
+    """The words joined as the tree tells."""
+    if isinstance(tree, int):
+        return words[tree]
+    return meet_by_hand(book, say_by_hand(book, words, tree[0]), say_by_hand(book, words, tree[1]))
+
+
 def nested(kind, depth):
     thing = kind()
     for _ in range(depth - 1):
@@ -140,6 +224,7 @@ def odd_things():
         None, True, False, "", "0", "(0, 1)", " \n\t~", [], [0], [0, 1], [[0]], (), (None,), (True,),
         (False,), ("0",), ([],), ({},), ((),), ((0,),), {}, {0: 0}, {"a": [1]}, {(0, 1): "over"},
         SeamError(), NoShape(), NoBook([1]), TooMany(40), (NoShape(),), nested(tuple, 30), nested(list, 30),
+        Book(1, 1, 1, {}), (Book(2, 1, 1, {}),), {nested(tuple, 30): nested(list, 29)}, {NoShape(): 1}, {None: {}},
         -1, 10 ** 40, -10 ** 40,
     ]
 
@@ -167,6 +252,23 @@ def no_lengths():
     return odd_things() + [
         [1, 1], (0,), (-1,), (1, 0), (0, 1), (1, -1), (10 ** 6 + 1,), (1, 10 ** 6 + 1), (10 ** 40, 1), (1, True),
         (True, 1), (1, None), (1, "1"), (1, (1,)), (1, [1]), (1,) * 41, (1,) * 1000, (1,) * 39 + (0,),
+    ]
+
+
+def no_words(sounds):
+    """Values that are no words of a book of so many sounds."""
+    return [thing for thing in odd_things() if thing != ((0,),)] + [
+        [(0,)], ([0],), ((0,), [0]), ((0,), ()), ((0,), None), ((0,), 0), ((0,), (None,)), ((0,), (True,)),
+        ((False,),), ((0,), ("0",)), ((0,), ((0,),)), ((sounds,),), ((0,), (0, sounds)), ((-1,),), ((0, -1),),
+        ((10 ** 40,),), ((0,) * 201,), ((0,), (0,) * 201), ((0,),) * 41, ((0,),) * 1000, ("0", "0"), {0: (0,)},
+    ]
+
+
+def no_rows(sounds):
+    """Values that are no rows of a book of so many sounds."""
+    return odd_things() + [
+        [0], [0, 0], (0, None), (0, True), (False, 0), (0, "0"), (0, (0,)), (0, [0]), (sounds,), (0, sounds), (-1,),
+        (0, -1), (10 ** 40,), (0,) * 4001, (0,) * 4000 + (sounds,), (0,) * 3999 + (None,), {0: 0}, "0",
     ]
 
 

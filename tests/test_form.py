@@ -11,6 +11,11 @@ BUILTINS = (
     "list", "tuple", "dict", "set", "isinstance", "ord", "repr", "any", "all", "divmod", "Exception", "ValueError",
     "TypeError", "KeyError", "map", "iter", "next", "super", "property", "staticmethod", "classmethod",
 )
+METHODS = (
+    "append", "clear", "copy", "count", "endswith", "extend", "find", "get", "index", "insert", "isdigit", "items",
+    "join", "keys", "lower", "partition", "pop", "remove", "replace", "reverse", "setdefault", "split", "startswith",
+    "strip", "update", "values",
+)
 LIBRARY = {
     "heapq": ("heappush", "heappop", "heapify", "heapreplace", "heappushpop"),
     "math": ("gcd", "lcm", "isqrt", "comb", "perm", "factorial"),
@@ -122,6 +127,7 @@ class Form(unittest.TestCase):
     def test_no_statement_that_is_barred(self):
         barred = (
             ast.Global, ast.AsyncFunctionDef, ast.Await, ast.AsyncFor, ast.AsyncWith, ast.Div, ast.Set, ast.MatMult,
+            ast.GeneratorExp,
         )
         for name, tree in trees():
             for node in ast.walk(tree):
@@ -129,6 +135,26 @@ class Form(unittest.TestCase):
                 if isinstance(node, ast.Constant):
                     self.assertNotIsInstance(node.value, (float, complex), name)
                     self.assertFalse(isinstance(node.value, str) and "%" in node.value, name)
+
+    def test_powers_have_plain_exponents(self):
+        for name, tree in trees():
+            for node in ast.walk(tree):
+                if isinstance(node, ast.BinOp) and isinstance(node.op, ast.Pow):
+                    self.assertIsInstance(node.right, ast.Constant, (name, node.lineno))
+
+    def test_methods_of_builtin_values_are_those_of_the_rules(self):
+        own = {
+            node.name for _, tree in trees() for kind in ast.walk(tree) if isinstance(kind, ast.ClassDef)
+            for node in kind.body if isinstance(node, ast.FunctionDef)
+        }
+        for name, tree in trees():
+            for node in ast.walk(tree):
+                if isinstance(node, ast.Call) and isinstance(node.func, ast.Attribute):
+                    self.assertIn(node.func.attr, own | set(METHODS) | {"add", "discard"}, (name, node.lineno))
+
+    def test_no_sort_where_a_class_compares(self):
+        for name, tree in trees():
+            self.assertNotIn(".sort(", text_of(name), name)
 
 
 def defined_classes(tree):

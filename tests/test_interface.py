@@ -7,8 +7,22 @@ import sys
 import unittest
 
 from heardseams import errors
-from heardseams.errors import NoBallot, NoLengths, NoNumber, NoPart, NoSeam, NoShape, NoStep
+from heardseams.books import Book
+from heardseams.errors import (
+    NoBallot, NoBook, NoLeaning, NoLengths, NoNumber, NoPart, NoRow, NoSeam, NoShape, NoShapes, NoStep, NoTable, NoWords,
+    OtherBook,
+)
 from tests.helper import error_kind, left_comb, nested, odd_things, right_comb, zigzag
+
+THREE = (1, 2, 3)
+BOOK = Book(2, 2, 1, {((0,), (1,)): ((1,), (0,)), ((0, 0), (1,)): ((1, 1), (1,))})
+WORDS = ((0, 0), (1,), (0, 1))
+RULES = ((((0, 1),), ((1,),), (1,), (None,)),)
+
+
+def backward(left, right):
+    return left[::-1], right[::-1]
+
 
 # The module, the function, its arguments by name, a call that is right.
 CALLS = (
@@ -35,15 +49,51 @@ CALLS = (
     ("numbers", "road_fault", ("lengths", "one", "other", "most", "thing"),
      ((1, 2, 3), (0, 1), (1, 0), 2, [(0, 1)])),
     ("numbers", "alike_in_all", ("lengths", "one", "other", "reach"), ((1, 2, 3), (0, 1), (1, 0), 2)),
+    ("books", "Book", ("sounds", "ahead", "behind", "table"), (2, 1, 1, {((0,), (1,)): ((1,), (0,))})),
+    ("books", "from_rules", ("sounds", "ahead", "behind", "rules"), (2, 1, 1, RULES)),
+    ("books", "by_function", ("sounds", "ahead", "behind", "function"), (2, 2, 1, backward)),
+    ("books", "one_behind_another", ("book", "other"), (BOOK, BOOK)),
+    ("books", "mirrored", ("book",), (BOOK,)),
+    ("saying", "said", ("book", "words", "shape"), (BOOK, WORDS, (0, 1))),
+    ("saying", "changes", ("book", "words", "shape"), (BOOK, WORDS, (1, 0))),
+    ("saying", "left_alone", ("book", "words", "shape"), (BOOK, WORDS, (0, 1))),
+    ("saying", "met", ("book", "one", "other"), (BOOK, (0, 0), (1,))),
+    ("forms", "form", ("lengths", "shape", "m"), (THREE, (1, 0), 2)),
+    ("forms", "same_class", ("lengths", "one", "other", "m"), (THREE, (0, 1), (1, 0), 2)),
+    ("forms", "is_form", ("lengths", "shape", "m"), (THREE, (1, 0), 2)),
+    ("forms", "classes_many", ("lengths", "m"), (THREE, 3)),
+    ("forms", "form_at", ("lengths", "m", "number"), (THREE, 3, 0)),
+    ("forms", "form_number", ("lengths", "shape", "m"), (THREE, (1, 0), 3)),
+    ("forms", "class_size", ("lengths", "shape", "m"), (THREE, (1, 0), 3)),
+    ("forms", "class_of", ("lengths", "shape", "m"), (THREE, (1, 0), 2)),
+    ("forms", "left_form", ("lengths", "shape", "m"), (THREE, (0, 1), 2)),
+    ("forms", "neighbours", ("lengths", "shape", "m"), (THREE, (0, 1), 3)),
+    ("forms", "leaning_size", ("leaning",), (("left", "right"),)),
+    ("forms", "class_sizes", ("lengths", "m"), (THREE, 3)),
+    ("forms", "greatest_class", ("lengths", "m"), (THREE, 2)),
+    ("forms", "unlike_near", ("lengths", "one", "other", "m"), (THREE, (0, 1), (1, 0), 3)),
+    ("forms", "first_joined", ("lengths", "shape"), (THREE, (0, 1))),
+    ("forks", "near", ("lengths", "shape", "m"), (THREE, (0, 1), 3)),
+    ("forks", "shape_of", ("lengths", "m", "table"), ((1, 2, 3, 1), 4, {(0, 1): "under", (1, 2): "over"})),
+    ("forks", "groups", ("lengths", "shapes", "m"), (THREE, [(0, 1), (1, 0), (0, 1)], 3)),
+    ("forks", "forks", ("lengths", "shapes"), (THREE, [(0, 1), (1, 0), (0, 1)])),
+    ("forks", "same_tongue", ("lengths", "shapes", "m"), (THREE, [(0, 1), (1, 0), (0, 1)], 3)),
 )
+CLASSES = {"Book": ("sounds", "ahead", "behind", "table", "reach")}
 KINDS = {
     "is_shape": bool, "shapes_many": int, "all_shapes": list, "shape_at": tuple, "shape_number": int,
     "outermost": int, "joined": tuple, "stands": str, "part_of": tuple, "joined_shape": tuple, "turned": tuple,
     "ballot": tuple, "from_ballot": tuple, "regroupings": list, "regrouped": tuple, "places": tuple,
     "unlike": list, "number": int, "middles": list, "road": list, "road_fault": None.__class__,
     "alike_in_all": bool,
+    "Book": Book, "from_rules": Book, "by_function": Book, "one_behind_another": Book, "mirrored": Book,
+    "said": tuple, "changes": list, "left_alone": tuple, "met": tuple, "form": tuple, "same_class": bool,
+    "is_form": bool, "classes_many": int, "form_at": tuple, "form_number": int, "class_size": int, "class_of": list,
+    "left_form": tuple, "neighbours": list, "leaning_size": int, "class_sizes": list, "greatest_class": tuple,
+    "unlike_near": list, "first_joined": tuple, "near": dict, "shape_of": tuple, "groups": list, "forks": list,
+    "same_tongue": list,
 }
-# The errors of the arguments of each function, in their order.
+# The errors of the arguments of each function, in their order; None where none is named.
 REFUSALS = {
     "shapes_many": (NoNumber,), "all_shapes": (NoNumber,), "shape_at": (NoNumber, NoNumber),
     "shape_number": (NoShape,), "outermost": (NoShape,), "joined": (NoShape, NoSeam),
@@ -52,6 +102,19 @@ REFUSALS = {
     "regrouped": (NoShape, NoStep, NoStep), "places": (NoLengths,), "unlike": (NoLengths, NoShape, NoShape),
     "number": (NoLengths, NoShape, NoShape), "middles": (NoLengths, NoShape), "road": (NoLengths, NoShape, NoShape),
     "road_fault": (NoLengths, NoShape, NoShape, NoNumber), "alike_in_all": (NoLengths, NoShape, NoShape, NoNumber),
+    "Book": (NoBook, NoBook, NoBook, NoBook), "from_rules": (NoBook, NoBook, NoBook, NoBook),
+    "by_function": (NoBook, NoBook, NoBook), "one_behind_another": (None, OtherBook),
+    "said": (None, NoWords, NoShape), "changes": (None, NoWords, NoShape), "left_alone": (None, NoWords, NoShape),
+    "met": (None, NoRow, NoRow), "form": (NoLengths, NoShape, NoNumber),
+    "same_class": (NoLengths, NoShape, NoShape, NoNumber), "is_form": (NoLengths, NoShape, NoNumber),
+    "classes_many": (NoLengths, NoNumber), "form_at": (NoLengths, NoNumber, NoNumber),
+    "form_number": (NoLengths, NoShape, NoNumber), "class_size": (NoLengths, NoShape, NoNumber),
+    "class_of": (NoLengths, NoShape, NoNumber), "left_form": (NoLengths, NoShape, NoNumber),
+    "neighbours": (NoLengths, NoShape, NoNumber), "leaning_size": (NoLeaning,), "class_sizes": (NoLengths, NoNumber),
+    "greatest_class": (NoLengths, NoNumber), "unlike_near": (NoLengths, NoShape, NoShape, NoNumber),
+    "first_joined": (NoLengths, NoShape), "near": (NoLengths, NoShape, NoNumber),
+    "shape_of": (NoLengths, NoNumber, NoTable), "groups": (NoLengths, NoShapes, NoNumber),
+    "forks": (NoLengths, NoShapes), "same_tongue": (NoLengths, NoShapes, NoNumber),
 }
 
 
@@ -61,14 +124,14 @@ def function_of(module, name):
 
 def never_right():
     """Values that no function takes for any argument whose error is named."""
-    return [thing for thing in odd_things() if thing != () and thing != 10 ** 40]
+    return [thing for thing in odd_things() if thing not in ((), {}, ((0,),)) and thing != 10 ** 40]
 
 
 class Interface(unittest.TestCase):
     def test_each_function_is_defined_where_it_is_listed(self):
         for module, name, arguments, _ in CALLS:
             function = function_of(module, name)
-            self.assertTrue(inspect.isfunction(function))
+            self.assertTrue(inspect.isclass(function) if name in CLASSES else inspect.isfunction(function))
             self.assertEqual(function.__module__, "heardseams." + module)
             self.assertEqual(function.__name__, name)
             self.assertEqual(tuple(inspect.signature(function).parameters), arguments)
@@ -78,6 +141,13 @@ class Interface(unittest.TestCase):
             for parameter in inspect.signature(function_of(module, name)).parameters.values():
                 self.assertEqual(parameter.kind, parameter.POSITIONAL_OR_KEYWORD)
                 self.assertIs(parameter.default, parameter.empty)
+
+    def test_each_method_is_defined_in_its_class(self):
+        for module, name, _, given in CALLS:
+            for method in CLASSES.get(name, ()):
+                kind = function_of(module, name)
+                self.assertTrue(inspect.isfunction(vars(kind)[method]), (name, method))
+                self.assertEqual(vars(kind)[method].__module__, kind.__module__)
 
     def test_each_error_is_defined_in_its_file(self):
         for name, kind in inspect.getmembers(errors, inspect.isclass):
@@ -92,9 +162,15 @@ class Interface(unittest.TestCase):
             self.check_plain(function_of(module, name)(*given))
 
     def check_plain(self, thing):
-        if isinstance(thing, (list, tuple)):
+        if isinstance(thing, dict):
+            self.check_plain(tuple(thing.items()))
+        elif isinstance(thing, list):
             for part in thing:
-                self.assertIn(part.__class__, (int, tuple))
+                self.assertIn(part.__class__, (int, tuple, list))
+                self.check_plain(part)
+        elif isinstance(thing, tuple):
+            for part in thing:
+                self.assertIn(part.__class__, (int, tuple, str))
                 self.check_plain(part)
 
 
@@ -124,6 +200,17 @@ class Lists(unittest.TestCase):
             found.append(1)
             self.assertEqual(function(*given), [])
 
+    def test_each_dict_is_new_and_equal(self):
+        for module, name, _, given in CALLS:
+            function = function_of(module, name)
+            first, second = function(*given), function(*given)
+            if isinstance(first, dict):
+                self.assertIsNot(first, second)
+                kept = dict(second)
+                first["more"] = 1
+                self.assertEqual(second, kept)
+                self.assertEqual(function(*given), kept)
+
     def test_no_argument_is_changed(self):
         for module, name, _, given in CALLS:
             kept = copy.deepcopy(given)
@@ -149,7 +236,7 @@ class Refused(unittest.TestCase):
     def test_every_wrong_thing_gets_the_error_that_is_named(self):
         for module, name, _, given in CALLS:
             for at, kind in enumerate(REFUSALS.get(name, ())):
-                for thing in never_right():
+                for thing in never_right() if kind else ():
                     wrong = given[:at] + (thing,) + given[at + 1:]
                     self.assertIs(error_kind(function_of(module, name), *wrong), kind, (name, at, thing))
 
@@ -158,7 +245,7 @@ class Refused(unittest.TestCase):
             kinds = REFUSALS.get(name, ())
             for first in range(len(kinds)):
                 for second in range(first + 1, len(given)):
-                    for thing in never_right():
+                    for thing in never_right() if kinds[first] else ():
                         for other in (None, thing):
                             wrong = list(given)
                             wrong[first], wrong[second] = thing, other
@@ -190,6 +277,11 @@ class Refused(unittest.TestCase):
                     function_of("shapes", name)(shape)
                 back = function_of("shapes", "from_ballot")(function_of("shapes", "ballot")(shape))
                 self.assertEqual(back, shape)
+                for m in (1, 2, 10 ** 9):
+                    for name in ("form", "left_form", "form_number", "class_size"):
+                        function_of("forms", name)((1,) * 40, shape, m)
+                function_of("forms", "form_at")((1,) * 40, 10 ** 9, function_of("shapes", "shape_number")(shape))
+                function_of("saying", "said")(BOOK, ((0, 1),) * 40, shape)
         finally:
             sys.setrecursionlimit(limit)
 

@@ -1,0 +1,96 @@
+"""What is said: the sounds of a phrase behind all its joinings."""
+
+from heardseams.numbers import need_shape_for, spots_of
+from heardseams.rows import lengths_of, need_row, need_words
+from heardseams.shapes import phrase_of
+
+
+def _joinings(shape, start, end):
+    """The seams from the start on and below the end, in the order of their joinings."""
+    if start == end:
+        return []
+    top = shape.index(min(shape[start:end]), start)
+    return _joinings(shape, start, top) + _joinings(shape, top + 1, end) + [top]
+
+
+def windows(book, lengths, shape):
+    """The tuples (seam, low, place, high), in the order of the joinings.
+
+    The joining of the seam, which is at the place, looks at the places from
+    low on and below high.
+    """
+    spots = (0,) + spots_of(lengths) + (sum(lengths),)
+    found = []
+    for seam in _joinings(shape, 0, len(shape)):
+        first, last = phrase_of(shape, seam)
+        place = spots[seam + 1]
+        low = max(spots[first], place - book.ahead())
+        high = min(spots[last + 1], place + book.behind())
+        found.append((seam, low, place, high))
+    return found
+
+
+def _new_sounds(book, row, window):
+    """What becomes of the sounds at which a joining looks."""
+    _, low, place, high = window
+    left, right = book.becomes(tuple(row[low:place]), tuple(row[place:high]))
+    return left + right
+
+
+def row_said(book, words, shape):
+    """The row of sounds that is said, whatever the words' lengths."""
+    row = [sound for word in words for sound in word]
+    for window in windows(book, lengths_of(words), shape):
+        row[window[1]:window[3]] = _new_sounds(book, row, window)
+    return tuple(row)
+
+
+def meet(book, one, other):
+    """Two rows as they are said when they meet."""
+    ahead, behind = book.ahead(), book.behind()
+    left, right = book.becomes(one[-ahead:], other[:behind])
+    return one[:-ahead] + left + right + other[behind:]
+
+
+def _need_phrase(book, words, shape):
+    """Checks the words and their shape."""
+    need_words(book, words)
+    need_shape_for(words, shape)
+
+
+def said(book, words, shape):
+    """The row of sounds that is said when the words are joined so."""
+    _need_phrase(book, words, shape)
+    return row_said(book, words, shape)
+
+
+def changes(book, words, shape):
+    """The list of (seam, place, old, new) of all sounds that become others."""
+    _need_phrase(book, words, shape)
+    row = [sound for word in words for sound in word]
+    found = []
+    for window in windows(book, lengths_of(words), shape):
+        fresh = _new_sounds(book, row, window)
+        for place, new in enumerate(fresh, start=window[1]):
+            if row[place] != new:
+                found.append((window[0], place, row[place], new))
+                row[place] = new
+    return found
+
+
+def left_alone(book, words, shape):
+    """The ascending tuple of the places at which no joining looked."""
+    _need_phrase(book, words, shape)
+    lengths = lengths_of(words)
+    looked = set()
+    for window in windows(book, lengths, shape):
+        for place in range(window[1], window[3]):
+            looked.add(place)
+    return tuple([place for place in range(sum(lengths)) if place not in looked])
+
+
+def met(book, one, other):
+    """Two rows of sounds as they are said when they meet."""
+    need_row(book, one)
+    need_row(book, other)
+    return meet(book, one, other)
