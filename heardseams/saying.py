@@ -52,6 +52,19 @@ def meet(book, one, other):
     return one[:-ahead] + left + right + other[behind:]
 
 
+def unlike_threes(book, firsts, seconds, thirds):
+    """The list of the tuples (x, y, z) of these rows that are said unlike as x (y z) and (x y) z."""
+    found = []
+    for y in seconds:
+        ahead = [(x, meet(book, x, y)) for x in firsts]
+        behind = [(z, meet(book, y, z)) for z in thirds]
+        for x, xy in ahead:
+            for z, yz in behind:
+                if meet(book, x, yz) != meet(book, xy, z):
+                    found.append((x, y, z))
+    return found
+
+
 def _need_phrase(book, words, shape):
     """Checks the words and their shape."""
     need_words(book, words)

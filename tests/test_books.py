@@ -351,6 +351,10 @@ class FromRules(unittest.TestCase):
             self.assertEqual(part_refused(from_rules, 2, 2, 1, (rule[:3] + (wrong,),)), "table", wrong)
         for wrong in (rule[:3], rule + ((0,),)):
             self.assertEqual(part_refused(from_rules, 2, 2, 1, (wrong,)), "table", wrong)
+        for wrong in ((None, 2), (0, True), ([], None), (0, "0"), (2, 0)):
+            self.assertEqual(part_refused(from_rules, 2, 2, 1, (rule[:2] + (wrong, rule[3]),)), "table", wrong)
+        self.assertEqual(part_refused(from_rules, 2, 2, 1, (((), ((0,),), (), (0,)),)), "table")
+        self.assertEqual(part_refused(from_rules, 2, 2, 1, ((((0,),), (), (0,), ()),)), "table")
         self.assertEqual(part_refused(from_rules, 2, 2, 1, ((((0,),) * 3, ((0,),), (0,) * 3, (0,)),)), "table")
         self.assertEqual(part_refused(from_rules, 2, 2, 1, ((((0,),), ((0,),) * 2, (0,), (0,) * 2),)), "table")
 

@@ -9,8 +9,8 @@ import unittest
 from heardseams import errors
 from heardseams.books import Book
 from heardseams.errors import (
-    NoBallot, NoBook, NoLeaning, NoLengths, NoNumber, NoPart, NoRow, NoSeam, NoShape, NoShapes, NoStep, NoTable, NoWords,
-    OtherBook,
+    NoBallot, NoBook, NoLeaning, NoLengths, NoList, NoNumber, NoPart, NoRow, NoSeam, NoShape, NoShapes, NoStep, NoTable,
+    NoWords, OtherBook,
 )
 from tests.helper import error_kind, left_comb, nested, odd_things, right_comb, zigzag
 
@@ -78,6 +78,23 @@ CALLS = (
     ("forks", "groups", ("lengths", "shapes", "m"), (THREE, [(0, 1), (1, 0), (0, 1)], 3)),
     ("forks", "forks", ("lengths", "shapes"), (THREE, [(0, 1), (1, 0), (0, 1)])),
     ("forks", "same_tongue", ("lengths", "shapes", "m"), (THREE, [(0, 1), (1, 0), (0, 1)], 3)),
+    ("partings", "parting", ("lengths", "one", "other"), (THREE, (0, 1), (1, 0))),
+    ("partings", "parts_them", ("book", "lengths", "one", "other"), (BOOK, THREE, (0, 1), (1, 0))),
+    ("partings", "heard_groups", ("book", "lengths", "shapes"), (BOOK, THREE, [(0, 1), (1, 0), (0, 1)])),
+    ("partings", "pauses", ("lengths", "shape", "cap"), (THREE, (0, 1), 2)),
+    ("heardsteps", "steps", ("one", "other"), ((0, 1, 2), (2, 1, 0))),
+    ("heardsteps", "heard_steps", ("lengths", "one", "other", "m"), (THREE, (0, 1), (1, 0), 3)),
+    ("heardsteps", "least_road", ("lengths", "one", "other", "most"), (THREE, (0, 1), (1, 0), 2)),
+    ("heardsteps", "to_the_right", ("one", "other"), ((1, 0), (0, 1))),
+    ("toldbooks", "matters", ("book",), (BOOK,)),
+    ("toldbooks", "matters_many", ("book",), (BOOK,)),
+    ("toldbooks", "unlike_sayings", ("book", "words"), (BOOK, WORDS)),
+    ("toldbooks", "most_sayings", ("lengths", "reach"), (THREE, 3)),
+    ("toldwords", "summary", ("book", "row"), (BOOK, (0, 1, 1))),
+    ("toldwords", "summaries", ("book", "words"), (BOOK, WORDS)),
+    ("toldwords", "ever_matters", ("book", "words"), (BOOK, WORDS)),
+    ("toldwords", "blamed", ("book", "words"), (BOOK, WORDS)),
+    ("toldwords", "phrase_for", ("book", "words", "thing"), (BOOK, WORDS, ((0,), (0, 1)))),
 )
 CLASSES = {"Book": ("sounds", "ahead", "behind", "table", "reach")}
 KINDS = {
@@ -91,7 +108,10 @@ KINDS = {
     "is_form": bool, "classes_many": int, "form_at": tuple, "form_number": int, "class_size": int, "class_of": list,
     "left_form": tuple, "neighbours": list, "leaning_size": int, "class_sizes": list, "greatest_class": tuple,
     "unlike_near": list, "first_joined": tuple, "near": dict, "shape_of": tuple, "groups": list, "forks": list,
-    "same_tongue": list,
+    "same_tongue": list, "parting": Book, "parts_them": bool, "heard_groups": list, "pauses": list, "steps": int,
+    "heard_steps": int, "least_road": list, "to_the_right": bool, "matters": tuple, "matters_many": int,
+    "unlike_sayings": int, "most_sayings": int, "summary": tuple, "summaries": list, "ever_matters": tuple,
+    "blamed": list, "phrase_for": tuple,
 }
 # The errors of the arguments of each function, in their order; None where none is named.
 REFUSALS = {
@@ -115,6 +135,13 @@ REFUSALS = {
     "first_joined": (NoLengths, NoShape), "near": (NoLengths, NoShape, NoNumber),
     "shape_of": (NoLengths, NoNumber, NoTable), "groups": (NoLengths, NoShapes, NoNumber),
     "forks": (NoLengths, NoShapes), "same_tongue": (NoLengths, NoShapes, NoNumber),
+    "parting": (NoLengths, NoShape, NoShape), "parts_them": (None, NoLengths, NoShape, NoShape),
+    "heard_groups": (None, NoLengths, NoShapes), "pauses": (NoLengths, NoShape, NoNumber),
+    "steps": (NoShape, NoShape), "heard_steps": (NoLengths, NoShape, NoShape, NoNumber),
+    "least_road": (NoLengths, NoShape, NoShape, NoNumber), "to_the_right": (NoShape, NoShape),
+    "unlike_sayings": (None, NoWords), "most_sayings": (NoLengths, NoNumber), "summary": (None, NoRow),
+    "summaries": (None, NoList), "ever_matters": (None, NoList), "blamed": (None, NoList),
+    "phrase_for": (None, NoList),
 }
 
 
