@@ -56,7 +56,7 @@ def _gathered(book, words):
 
 
 def _fresh_level(book, found, levels):
-    """The summaries that are new with one word more than the levels have; they are put into found."""
+    """The summaries that need as many words as there are levels; they are put into found."""
     many = len(levels)
     fresh = []
     for ahead in range(1, many):
