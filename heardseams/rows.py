@@ -1,7 +1,7 @@
 """Rows of sounds and words: what they are, and all rows up to a length."""
 
 from heardseams.checks import MOST_WORDS, is_within
-from heardseams.errors import NoRow, NoWords
+from heardseams.errors import NoRow, NoWords, TooMany
 
 MOST_IN_WORD = 200
 MOST_IN_ROW = 4000
@@ -36,6 +36,18 @@ def need_row(book, thing):
     """Raises NoRow unless the thing is a row of 1 to 4000 sounds of the book."""
     if not is_row(thing, book.sounds(), MOST_IN_ROW):
         raise NoRow()
+
+
+def need_word(book, thing):
+    """Raises NoWords unless the thing is a word of the book."""
+    if not is_row(thing, book.sounds(), MOST_IN_WORD):
+        raise NoWords()
+
+
+def need_few_words(words, most):
+    """Raises TooMany if there are more than so many words."""
+    if len(words) > most:
+        raise TooMany(most)
 
 
 def lengths_of(words):

@@ -30,7 +30,7 @@ def windows(book, lengths, shape):
     return found
 
 
-def _new_sounds(book, row, window):
+def new_sounds(book, row, window):
     """What becomes of the sounds at which a joining looks."""
     _, low, place, high = window
     left, right = book.becomes(tuple(row[low:place]), tuple(row[place:high]))
@@ -41,7 +41,7 @@ def row_said(book, words, shape):
     """The row of sounds that is said, whatever the words' lengths."""
     row = [sound for word in words for sound in word]
     for window in windows(book, lengths_of(words), shape):
-        row[window[1]:window[3]] = _new_sounds(book, row, window)
+        row[window[1]:window[3]] = new_sounds(book, row, window)
     return tuple(row)
 
 
@@ -65,7 +65,7 @@ def unlike_threes(book, firsts, seconds, thirds):
     return found
 
 
-def _need_phrase(book, words, shape):
+def need_phrase(book, words, shape):
     """Checks the words and their shape."""
     need_words(book, words)
     need_shape_for(words, shape)
@@ -73,17 +73,17 @@ def _need_phrase(book, words, shape):
 
 def said(book, words, shape):
     """The row of sounds that is said when the words are joined so."""
-    _need_phrase(book, words, shape)
+    need_phrase(book, words, shape)
     return row_said(book, words, shape)
 
 
 def changes(book, words, shape):
     """The list of (seam, place, old, new) of all sounds that become others."""
-    _need_phrase(book, words, shape)
+    need_phrase(book, words, shape)
     row = [sound for word in words for sound in word]
     found = []
     for window in windows(book, lengths_of(words), shape):
-        fresh = _new_sounds(book, row, window)
+        fresh = new_sounds(book, row, window)
         for place, new in enumerate(fresh, start=window[1]):
             if row[place] != new:
                 found.append((window[0], place, row[place], new))
@@ -93,7 +93,7 @@ def changes(book, words, shape):
 
 def left_alone(book, words, shape):
     """The ascending tuple of the places at which no joining looked."""
-    _need_phrase(book, words, shape)
+    need_phrase(book, words, shape)
     lengths = lengths_of(words)
     looked = set()
     for window in windows(book, lengths, shape):

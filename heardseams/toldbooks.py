@@ -4,7 +4,7 @@ from heardseams.checks import need_lengths, need_number
 from heardseams.errors import TooMany
 from heardseams.formcounts import FormCounts
 from heardseams.numbers import LEAST_REACH, MOST_REACH
-from heardseams.rows import all_rows, need_words, rows_many
+from heardseams.rows import all_rows, need_few_words, need_words, rows_many
 from heardseams.saying import meet, unlike_threes
 
 MOST_THREES = 20000
@@ -55,8 +55,7 @@ def _rows_said(book, words):
 def unlike_sayings(book, words):
     """How many unlike rows the shapes of the words have."""
     need_words(book, words)
-    if len(words) > MOST_WORDS_SAID:
-        raise TooMany(MOST_WORDS_SAID)
+    need_few_words(words, MOST_WORDS_SAID)
     return len(_rows_said(book, words))
 
 

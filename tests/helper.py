@@ -211,6 +211,29 @@ def say_by_hand(book, words, tree):
     return meet_by_hand(book, say_by_hand(book, words, tree[0]), say_by_hand(book, words, tree[1]))
 
 
+def some_phrases(seed, many, words, longest):
+    """Books with words of theirs, some shorter than what the book looks at."""
+    chance = random.Random(seed)
+    found = []
+    for _ in range(many):
+        sounds, ahead, behind = chance.choice((1, 2, 3, 8)), chance.randint(1, 4), chance.randint(1, 4)
+        if sounds <= 2:
+            book = full_book(chance, sounds, ahead, behind)
+        else:
+            book = random_book(chance, sounds, ahead, behind, 4000)
+        found.append((book, tuple(random_row(chance, sounds, chance.randint(1, longest)) for _ in range(words))))
+    return found
+
+
+def joinings_by_hand(tree):
+    """The seams in the order of their joinings, each with the first and the last word."""
+    if isinstance(tree, int):
+        return []
+    seam = [seam for seam, found in phrases(tree).items() if found[2] == 0][0]
+    first, last, _ = phrases(tree)[seam]
+    return joinings_by_hand(tree[0]) + joinings_by_hand(tree[1]) + [(seam, first, last)]
+
+
 def nested(kind, depth):
     thing = kind()
     for _ in range(depth - 1):

@@ -9,14 +9,15 @@ import unittest
 from heardseams import errors
 from heardseams.books import Book
 from heardseams.errors import (
-    NoBallot, NoBook, NoLeaning, NoLengths, NoList, NoNumber, NoPart, NoRow, NoSeam, NoShape, NoShapes, NoStep, NoTable,
-    NoWords, OtherBook,
+    NoBallot, NoBook, NoChoices, NoLeaning, NoLengths, NoList, NoNumber, NoOrder, NoPart, NoRow, NoSeam, NoShape,
+    NoShapes, NoStep, NoTable, NoWords, OtherBook,
 )
 from tests.helper import error_kind, left_comb, nested, odd_things, right_comb, zigzag
 
 THREE = (1, 2, 3)
 BOOK = Book(2, 2, 1, {((0,), (1,)): ((1,), (0,)), ((0, 0), (1,)): ((1, 1), (1,))})
 WORDS = ((0, 0), (1,), (0, 1))
+CHOICES = (((1, 0),), ((2, 5), (1, 7)), ((1, 0), (3, 0)))
 RULES = ((((0, 1),), ((1,),), (1,), (None,)),)
 
 
@@ -95,6 +96,23 @@ CALLS = (
     ("toldwords", "ever_matters", ("book", "words"), (BOOK, WORDS)),
     ("toldwords", "blamed", ("book", "words"), (BOOK, WORDS)),
     ("toldwords", "phrase_for", ("book", "words", "thing"), (BOOK, WORDS, ((0,), (0, 1)))),
+    ("tellingback", "heard_as", ("book", "words", "row"), (BOOK, WORDS, (1, 1, 0, 0, 1))),
+    ("tellingback", "sayings", ("book", "words"), (BOOK, WORDS)),
+    ("tellingback", "surely", ("book", "words", "row"), (BOOK, ((1,),) * 4, (1,) * 4)),
+    ("tellingback", "asks", ("book", "words", "row"), (BOOK, ((1,),) * 4, (1,) * 4)),
+    ("chains", "chain_ends", ("book", "word", "times"), (BOOK, (0, 1), 10 ** 30)),
+    ("chains", "chain_sound", ("book", "word", "times", "place"), (BOOK, (0, 1), 10 ** 30, 10 ** 20)),
+    ("chains", "chain_count", ("book", "word", "times", "sound"), (BOOK, (0, 1), 10 ** 30, 1)),
+    ("chains", "chain_ring", ("book", "word"), (BOOK, (0, 1))),
+    ("chains", "doubled_ends", ("book", "word", "times"), (BOOK, (0, 1), 10 ** 30)),
+    ("intime", "shape_in_time", ("order",), ((0, 2, 1),)),
+    ("intime", "orders_many", ("shape",), ((1, 0, 1),)),
+    ("intime", "orders_of", ("shape",), ((1, 0, 1),)),
+    ("intime", "said_in_time", ("book", "words", "order"), (BOOK, WORDS, (1, 0))),
+    ("intime", "looked_at", ("book", "words", "shape"), (BOOK, WORDS, (1, 0))),
+    ("intime", "history", ("book", "words", "shape", "place"), (BOOK, WORDS, (1, 0), 2)),
+    ("choices", "cheapest_apart", ("choices", "one", "other", "reach"), (CHOICES, (0, 1), (1, 0), 3)),
+    ("choices", "cheapest_alike", ("choices", "one", "other", "reach"), (CHOICES, (0, 1), (1, 0), 2)),
 )
 CLASSES = {"Book": ("sounds", "ahead", "behind", "table", "reach")}
 KINDS = {
@@ -111,7 +129,10 @@ KINDS = {
     "same_tongue": list, "parting": Book, "parts_them": bool, "heard_groups": list, "pauses": list, "steps": int,
     "heard_steps": int, "least_road": list, "to_the_right": bool, "matters": tuple, "matters_many": int,
     "unlike_sayings": int, "most_sayings": int, "summary": tuple, "summaries": list, "ever_matters": tuple,
-    "blamed": list, "phrase_for": tuple,
+    "blamed": list, "phrase_for": tuple, "heard_as": list, "sayings": dict, "surely": dict, "asks": int,
+    "chain_ends": tuple, "chain_sound": int, "chain_count": int, "chain_ring": tuple, "doubled_ends": tuple,
+    "shape_in_time": tuple, "orders_many": int, "orders_of": list, "said_in_time": tuple, "looked_at": list,
+    "history": list, "cheapest_apart": tuple, "cheapest_alike": tuple,
 }
 # The errors of the arguments of each function, in their order; None where none is named.
 REFUSALS = {
@@ -141,7 +162,13 @@ REFUSALS = {
     "least_road": (NoLengths, NoShape, NoShape, NoNumber), "to_the_right": (NoShape, NoShape),
     "unlike_sayings": (None, NoWords), "most_sayings": (NoLengths, NoNumber), "summary": (None, NoRow),
     "summaries": (None, NoList), "ever_matters": (None, NoList), "blamed": (None, NoList),
-    "phrase_for": (None, NoList),
+    "phrase_for": (None, NoList), "heard_as": (None, NoWords, NoRow), "sayings": (None, NoWords),
+    "surely": (None, NoWords, NoRow), "asks": (None, NoWords, NoRow), "chain_ends": (None, NoWords, NoNumber),
+    "chain_sound": (None, NoWords, NoNumber, NoNumber), "chain_count": (None, NoWords, NoNumber, NoNumber),
+    "chain_ring": (None, NoWords), "doubled_ends": (None, NoWords, NoNumber), "shape_in_time": (NoOrder,),
+    "orders_many": (NoShape,), "orders_of": (NoShape,), "said_in_time": (None, NoWords, NoOrder),
+    "looked_at": (None, NoWords, NoShape), "history": (None, NoWords, NoShape, NoNumber),
+    "cheapest_apart": (NoChoices, NoShape, NoShape, NoNumber), "cheapest_alike": (NoChoices, NoShape, NoShape, NoNumber),
 }
 
 
@@ -197,7 +224,7 @@ class Interface(unittest.TestCase):
                 self.check_plain(part)
         elif isinstance(thing, tuple):
             for part in thing:
-                self.assertIn(part.__class__, (int, tuple, str))
+                self.assertIn(part.__class__, (int, tuple, str, None.__class__))
                 self.check_plain(part)
 
 

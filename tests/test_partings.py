@@ -12,7 +12,7 @@ from heardseams.saying import said
 from heardseams.shapes import all_shapes, joined, regrouped, regroupings
 from tests.helper import (
     distances, error_kind, full_book, left_comb, long_trees, no_integers, no_lengths, no_shapes, odd_things, raised,
-    random_book, right_comb, say_by_hand, shape_of, some_lengths, trees, words_of, zigzag,
+    right_comb, say_by_hand, shape_of, some_lengths, trees, words_of, zigzag,
 )
 
 THREE = (1, 2, 3)

@@ -7,35 +7,12 @@ from heardseams.books import Book, from_rules
 from heardseams.errors import NoRow, NoShape, NoWords
 from heardseams.saying import changes, left_alone, met, said
 from tests.helper import (
-    error_kind, full_book, left_comb, long_trees, meet_by_hand, no_rows, no_shapes, no_words, phrases, random_book,
-    random_row, right_comb, say_by_hand, shape_of, trees, zigzag,
+    error_kind, joinings_by_hand, left_comb, long_trees, meet_by_hand, no_rows, no_shapes, no_words, phrases,
+    random_row, right_comb, say_by_hand, shape_of, some_phrases, trees, zigzag,
 )
 
 # Two sounds that meet become 1 and what was ahead.
 PUSH = Book(3, 1, 1, {((a,), (b,)): ((1,), (a,)) for a in range(3) for b in range(3)})
-
-
-def some_phrases(seed, many, words, longest):
-    """Books with words of theirs, some shorter than what the book looks at."""
-    chance = random.Random(seed)
-    found = []
-    for _ in range(many):
-        sounds, ahead, behind = chance.choice((1, 2, 3, 8)), chance.randint(1, 4), chance.randint(1, 4)
-        if sounds <= 2:
-            book = full_book(chance, sounds, ahead, behind)
-        else:
-            book = random_book(chance, sounds, ahead, behind, 4000)
-        found.append((book, tuple(random_row(chance, sounds, chance.randint(1, longest)) for _ in range(words))))
-    return found
-
-
-def joinings_by_hand(tree):
-    """The seams in the order of their joinings, each with the first and the last word."""
-    if isinstance(tree, int):
-        return []
-    seam = [seam for seam, found in phrases(tree).items() if found[2] == 0][0]
-    first, last, _ = phrases(tree)[seam]
-    return joinings_by_hand(tree[0]) + joinings_by_hand(tree[1]) + [(seam, first, last)]
 
 
 def changes_by_hand(book, words, tree):
