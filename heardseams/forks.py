@@ -93,7 +93,7 @@ def _finer(marks, shapes, pairs):
     return fresh
 
 
-def _marks_below(lengths, shapes, m):
+def marks_below(lengths, shapes, m):
     """The list of (distance, marks), from (0, marks that are all alike) on.
 
     Shapes have the same mark if all seams up to this distance stand alike in
@@ -118,7 +118,7 @@ def groups(lengths, shapes, m):
     need_lengths(lengths)
     need_shapes(lengths, shapes)
     need_m(m)
-    return grouped(_marks_below(lengths, shapes, m)[-1][1])
+    return grouped(marks_below(lengths, shapes, m)[-1][1])
 
 
 def forks(lengths, shapes):
@@ -126,7 +126,7 @@ def forks(lengths, shapes):
     need_lengths(lengths)
     need_shapes(lengths, shapes)
     # No two seams are as far from each other as the words are long in all.
-    return [distance for distance, _ in _marks_below(lengths, shapes, sum(lengths))[1:]]
+    return [distance for distance, _ in marks_below(lengths, shapes, sum(lengths))[1:]]
 
 
 def same_tongue(lengths, shapes, m):
@@ -134,4 +134,4 @@ def same_tongue(lengths, shapes, m):
     need_lengths(lengths)
     need_shapes(lengths, shapes)
     need_m(m)
-    return [grouped(marks) for _, marks in _marks_below(lengths, shapes, m)]
+    return [grouped(marks) for _, marks in marks_below(lengths, shapes, m)]

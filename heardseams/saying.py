@@ -45,6 +45,19 @@ def row_said(book, words, shape):
     return tuple(row)
 
 
+def rows_joined(book, words, shape):
+    """For each seam the row of its phrase as it is said right when it is joined."""
+    lengths = lengths_of(words)
+    starts = (0,) + spots_of(lengths) + (sum(lengths),)
+    row = [sound for word in words for sound in word]
+    found = [()] * len(shape)
+    for window in windows(book, lengths, shape):
+        row[window[1]:window[3]] = new_sounds(book, row, window)
+        first, last = phrase_of(shape, window[0])
+        found[window[0]] = tuple(row[starts[first]:starts[last + 1]])
+    return found
+
+
 def meet(book, one, other):
     """Two rows as they are said when they meet."""
     ahead, behind = book.ahead(), book.behind()
