@@ -211,17 +211,21 @@ def say_by_hand(book, words, tree):
     return meet_by_hand(book, say_by_hand(book, words, tree[0]), say_by_hand(book, words, tree[1]))
 
 
+def some_book(chance):
+    """A book of any size: of one or two sounds it tells for each pair of rows what it becomes."""
+    sounds, ahead, behind = chance.choice((1, 2, 3, 8)), chance.randint(1, 4), chance.randint(1, 4)
+    if sounds <= 2:
+        return full_book(chance, sounds, ahead, behind)
+    return random_book(chance, sounds, ahead, behind, 4000)
+
+
 def some_phrases(seed, many, words, longest):
     """Books with words of theirs, some shorter than what the book looks at."""
     chance = random.Random(seed)
     found = []
     for _ in range(many):
-        sounds, ahead, behind = chance.choice((1, 2, 3, 8)), chance.randint(1, 4), chance.randint(1, 4)
-        if sounds <= 2:
-            book = full_book(chance, sounds, ahead, behind)
-        else:
-            book = random_book(chance, sounds, ahead, behind, 4000)
-        found.append((book, tuple(random_row(chance, sounds, chance.randint(1, longest)) for _ in range(words))))
+        book = some_book(chance)
+        found.append((book, tuple(random_row(chance, book.sounds(), chance.randint(1, longest)) for _ in range(words))))
     return found
 
 

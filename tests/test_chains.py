@@ -8,7 +8,7 @@ from heardseams.chains import chain_count, chain_ends, chain_ring, chain_sound, 
 from heardseams.errors import NoNumber, NoWords
 from heardseams.saying import said
 from tests.helper import (
-    error_kind, full_book, left_comb, meet_by_hand, no_integers, odd_things, random_book, random_row,
+    error_kind, full_book, left_comb, meet_by_hand, no_integers, odd_things, raised, random_row, some_book,
 )
 
 MOST = 10 ** 30
@@ -20,12 +20,8 @@ def some_chains(seed, many):
     chance = random.Random(seed)
     found = []
     for _ in range(many):
-        sounds, ahead, behind = chance.choice((1, 2, 3, 8)), chance.randint(1, 4), chance.randint(1, 4)
-        if sounds <= 2:
-            book = full_book(chance, sounds, ahead, behind)
-        else:
-            book = random_book(chance, sounds, ahead, behind, 4000)
-        found.append((book, random_row(chance, sounds, chance.choice((1, 1, 1, 2, 2, 3, 4, 5, 9)))))
+        book = some_book(chance)
+        found.append((book, random_row(chance, book.sounds(), chance.choice((1, 1, 1, 2, 2, 3, 4, 5, 9)))))
     return found
 
 
@@ -327,10 +323,10 @@ class Refused(unittest.TestCase):
                 for thing in no_integers() + [-1, MOST + 1, 10 ** 40, -10 ** 40]:
                     for rest in (more[1:], (None,) * len(more[1:])):
                         self.assertIs(error_kind(function, SILENT, (0,), thing, *rest), NoNumber, thing)
-                self.assertIsNone(error_kind_or_none(function, SILENT, (0,), 1, *more[1:]))
-                self.assertIsNone(error_kind_or_none(function, SILENT, (0,), MOST, *more[1:]))
-                self.assertIs(error_kind_or_none(function, SILENT, (0,), 0, *more[1:]),
-                              None if function is doubled_ends else NoNumber)
+                self.assertIsNone(raised(function, SILENT, (0,), 1, *more[1:]))
+                self.assertIsNone(raised(function, SILENT, (0,), MOST, *more[1:]))
+                expected = None.__class__ if function is doubled_ends else NoNumber
+                self.assertIs(error_kind(function, SILENT, (0,), 0, *more[1:]), expected)
 
     def test_sounds_of_the_book_alone(self):
         for sounds in range(1, 9):
@@ -339,14 +335,6 @@ class Refused(unittest.TestCase):
             self.assertIs(error_kind(chain_ends, book, (sounds,), 3), NoWords)
             self.assertEqual(chain_count(book, (0,), 3, sounds - 1), 3 if sounds == 1 else 0)
             self.assertIs(error_kind(chain_count, book, (0,), 3, sounds), NoNumber)
-
-
-def error_kind_or_none(function, *given):
-    try:
-        function(*given)
-    except Exception as error:
-        return error.__class__
-    return None
 
 
 if __name__ == "__main__":
